@@ -1,0 +1,1 @@
+"""Dueanywhere: whose midnight is it? Each module is imported by its full name."""
