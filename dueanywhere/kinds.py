@@ -3,7 +3,9 @@
 from dueanywhere.errors import InvalidBounds
 from dueanywhere.errors import InvalidClaims
 from dueanywhere.errors import InvalidIndex
+from dueanywhere.errors import InvalidItems
 from dueanywhere.errors import InvalidNumber
+from dueanywhere.errors import InvalidPairs
 from dueanywhere.errors import InvalidPoint
 from dueanywhere.errors import InvalidSpots
 from dueanywhere.errors import InvalidSystem
@@ -82,6 +84,14 @@ def are_moments(system, value):
     return all([is_integer(moment) for moment in value]) and value[0] == 0
 
 
+def is_pair(count, value):
+    """Whether value is a pair of unlike items, count being their number."""
+    if not is_tuple_of(2, value):
+        return False
+    a, b = value
+    return is_index(count, a) and is_index(count, b) and a != b
+
+
 def check_system(system):
     """Raise InvalidSystem if it is no system."""
     if not is_whole_system(system):
@@ -158,7 +168,33 @@ def check_claims(system, claims):
         check_claim(system, claim)
 
 
+def check_integers(weights):
+    """Raise InvalidWeights if these are no list of integers."""
+    if not isinstance(weights, list) or not all([is_integer(weight) for weight in weights]):
+        raise InvalidWeights("these are no list of integers")
+
+
 def check_weights(count, weights):
     """Raise InvalidWeights if these are no list of so many integers."""
-    if not isinstance(weights, list) or len(weights) != count or not all([is_integer(weight) for weight in weights]):
-        raise InvalidWeights("these are no list of integers, one for each")
+    check_integers(weights)
+    if len(weights) != count:
+        raise InvalidWeights("these are not as many integers as there must be")
+
+
+def check_rates(count, rates):
+    """Raise InvalidWeights if these are no list of so many integers from 0 on."""
+    check_weights(count, rates)
+    if not all([rate >= 0 for rate in rates]):
+        raise InvalidWeights("a rate is below 0")
+
+
+def check_pairs(count, pairs):
+    """Raise InvalidPairs if these are no list or tuple of pairs of items, count being their number."""
+    if not isinstance(pairs, (list, tuple)) or not all([is_pair(count, pair) for pair in pairs]):
+        raise InvalidPairs("these are no pairs of items")
+
+
+def check_items(count, items):
+    """Raise InvalidItems if these are no list or tuple of items, count being their number."""
+    if not isinstance(items, (list, tuple)) or not are_indexes(count, list(items)):
+        raise InvalidItems("these are no items")

@@ -1,8 +1,12 @@
 """All functions of the interface with right arguments for each, and what each argument must be."""
 
 from dueanywhere import bounds
+from dueanywhere import clocks
+from dueanywhere import cuts
+from dueanywhere import days
 from dueanywhere import errors
 from dueanywhere import orders
+from dueanywhere import pasts
 from dueanywhere import worlds
 from tests import helper
 
@@ -14,6 +18,11 @@ RIGHT = {
     "other_world": (0, 4, 5), "difference": 4, "wish": (0, 9, 9), "one": ONE, "other": OTHER, "claim": (OTHER, ONE, 1),
     "claims": [(OTHER, ONE, 1), (ONE, (1, 3), 7)], "spots": [ONE, OTHER, (2, 9)], "line": [[0], [1], [2]],
     "amounts": [7, -3, 2], "until": ONE, "count": 3, "value": [0],
+    "places": helper.BOOK[0], "book": helper.BOOK, "entry": (1, 1, 142560), "tie": ("look", 0, 3, None, 70),
+    "entry_number": 2, "other_number": 0, "place": 1, "day": 99, "first_day": -3, "last_day": 40, "year": 2024,
+    "month": 2, "term": ("open", 3), "holidays": (-7, 2, 102),
+    "weights": [5, -3, 4, 9], "pairs": [(2, 1), (3, 0), (3, 1), (2, 1)], "inside": [0], "outside": [3],
+    "carry": [(2, 1, 3), (3, 1, 1)], "rates": [0, 1, 0, 2], "goal": 10, "at": (1, 12), "row": [0, 1],
 }
 
 
@@ -55,6 +64,26 @@ def is_line(count, value):
     return value == helper.line_of([[at for at, row in enumerate(value) if k in row][0] for k in range(count)])
 
 
+def number_of_items(args):
+    return args["count"] if "count" in args else len(args["weights"])
+
+
+def are_integers(args, value):
+    return type(value) is list and all(helper.is_int(part) for part in value)
+
+
+def are_rates(args, value):
+    return are_integers(args, value) and len(value) == number_of_items(args) and all(part >= 0 for part in value)
+
+
+def are_pairs(args, value):
+    return type(value) in (list, tuple) and all(helper.is_pair(number_of_items(args), pair) for pair in value)
+
+
+def places_of(args):
+    return args["places"] if "places" in args else args["book"][0]
+
+
 JUDGES = {
     "system": (lambda args, value: helper.is_system(value), errors.InvalidSystem),
     "bounds": (are_bounds, errors.InvalidBounds),
@@ -75,18 +104,40 @@ JUDGES = {
     "amounts": (are_amounts, errors.InvalidWeights),
     "line": (lambda args, value: is_line(len(args["spots"]), value), errors.InvalidLine),
     "any": (lambda args, value: True, None),
+    "places": (lambda args, value: helper.is_places(value), errors.InvalidPlaces),
+    "book": (lambda args, value: helper.is_book(value), errors.InvalidBook),
+    "entry": (lambda args, value: helper.is_entry(places_of(args), value), errors.InvalidEntry),
+    "tie": (lambda args, value: helper.is_tie(args["book"], value), errors.InvalidTie),
+    "number of entry": (lambda args, value: helper.is_index(len(args["book"][1]), value), errors.InvalidIndex),
+    "place": (lambda args, value: helper.is_index(len(args["book"][0]), value), errors.InvalidPlace),
+    "world of book": (lambda args, value: helper.are_moments([len(helper.points_of(args["book"]))], value)
+                      and helper.keeps_book(args["book"], value), errors.InvalidWorld),
+    "day": (lambda args, value: helper.is_int(value), errors.InvalidDay),
+    "year": (lambda args, value: helper.is_date(value, args["month"], args["day"]), errors.InvalidDay),
+    "month": (lambda args, value: helper.is_date(args["year"], value, args["day"]), errors.InvalidDay),
+    "day of month": (lambda args, value: helper.is_date(args["year"], args["month"], value), errors.InvalidDay),
+    "term": (lambda args, value: helper.is_term(value), errors.InvalidTerm),
+    "holidays": (lambda args, value: helper.are_holidays(value), errors.InvalidHolidays),
+    "weights": (are_integers, errors.InvalidWeights),
+    "rates": (are_rates, errors.InvalidWeights),
+    "pairs": (are_pairs, errors.InvalidPairs),
+    "items": (lambda args, value: helper.are_items(number_of_items(args), value), errors.InvalidItems),
+    "carry": (lambda args, value: helper.is_carry(number_of_items(args), args["pairs"], value), errors.InvalidItems),
+    "row": (lambda args, value: helper.are_ascending(len(args["spots"]), value), errors.InvalidPast),
 }
 
-NEVER, RAISES = False, True
+NEVER, RAISES, RAISES_OF_BOOK, RAISES_NO_SET = "never", "system", "book", "set"
+# What is handed in so that the last error comes: for a set, something that is inside brings what is outside.
+WITHOUT = {"system": {"system": helper.BROKEN}, "book": {"book": helper.BROKEN_BOOK}, "set": {"inside": [2, 3]}}
 
 
 class Routine:
-    """A function, its right arguments in their order, what each must be, and whether it raises NoWorld."""
+    """A function, its right arguments in their order, what each must be, and what it raises behind all of them."""
 
-    def __init__(self, function, need_world, kinds, **others):
+    def __init__(self, function, behind, kinds, **others):
         self.function = function
         self.name = function.__name__
-        self.need_world = need_world
+        self.behind = behind
         self.kinds = kinds
         self.args = {name: {**RIGHT, **others}[name] for name in kinds}
 
@@ -111,6 +162,13 @@ TWO = {"i": "point", "j": "second point", "spots": "spots of two"}
 BOTH_SYSTEMS = {"system": "system", "other_system": "system"}
 BOTH_WORLDS = {**S, "world": "world", "other_world": "world"}
 SHOWN = {"number": "any", "value": "any"}
+BOOK = {"book": "book"}
+ENTRY = {**BOOK, "entry_number": "number of entry"}
+CUT = {"pairs": "pairs", "inside": "items", "outside": "items"}
+COUNTED = {"count": "natural", **CUT}
+WEIGHTED = {"weights": "weights", **CUT}
+PAST = {**S, "spots": "spots", "at": "spot"}
+DUE = {"term": "term", "holidays": "holidays"}
 
 ROUTINES = [
     Routine(bounds.is_system, NEVER, {"value": "any"}),
@@ -162,4 +220,55 @@ ROUTINES = [
     Routine(orders.always_before, RAISES, {**S, "spots": "spots"}),
     Routine(orders.line_steps, RAISES, {**S, **TWO}, i=1, j=2),
     Routine(orders.sum_steps, RAISES, {**S, **TWO, "amounts": "amounts", "until": "spot of two"}, i=1, j=2),
+    Routine(clocks.is_places, NEVER, {"value": "any"}, value=helper.BOOK[0]),
+    Routine(clocks.is_book, NEVER, {"value": "any"}, value=helper.BOOK),
+    Routine(clocks.is_entry, NEVER, {"places": "places", "value": "any"}, value=RIGHT["entry"]),
+    Routine(clocks.is_tie, NEVER, {**BOOK, "value": "any"}, value=RIGHT["tie"]),
+    Routine(clocks.points_of, NEVER, BOOK),
+    Routine(clocks.system_of, NEVER, BOOK),
+    Routine(clocks.spot_of, NEVER, ENTRY),
+    Routine(clocks.mark_of, NEVER, {**BOOK, "place": "place", "day": "day"}),
+    Routine(clocks.with_entry, NEVER, {**BOOK, "entry": "entry"}),
+    Routine(clocks.with_tie, NEVER, {**BOOK, "tie": "tie"}),
+    Routine(clocks.with_tie, NEVER, {**BOOK, "tie": "tie"}, tie=("apart", 1, 0, 1, 1, -4, None)),
+    Routine(clocks.book_bar, NEVER, BOOK),
+    Routine(clocks.moment, NEVER, {**BOOK, "world": "world of book", "entry_number": "number of entry"},
+            world=helper.BOOK_WORLD),
+    Routine(clocks.apart, RAISES_OF_BOOK, {**ENTRY, "other_number": "number of entry"}),
+    Routine(days.steady_bar, NEVER, BOOK),
+    Routine(days.day_range, RAISES_OF_BOOK, {**ENTRY, "place": "place"}),
+    Routine(days.day_world, RAISES_OF_BOOK, {**ENTRY, "place": "place", "day": "day"}),
+    Routine(days.date, NEVER, {"day": "day"}),
+    Routine(days.day_of, NEVER, {"year": "year", "month": "month", "day": "day of month"}, day=29),
+    Routine(days.weekday, NEVER, {"day": "day"}),
+    Routine(days.is_open, NEVER, {"day": "day", "holidays": "holidays"}),
+    Routine(days.open_days, NEVER, {"first_day": "day", "last_day": "day", "holidays": "holidays"}),
+    Routine(days.due_day, NEVER, {"day": "day", **DUE}),
+    Routine(days.due_mark, NEVER, {**ENTRY, **DUE}),
+    Routine(cuts.clash, NEVER, COUNTED, count=4, inside=(0, 2)),
+    Routine(cuts.is_clash, NEVER, {**COUNTED, "value": "any"}, count=4, inside=[3], outside=(1, 1), value=[3, 1]),
+    Routine(cuts.is_closed, NEVER, {**COUNTED, "value": "any"}, count=4, value=[0, 1, 2]),
+    Routine(cuts.narrowest, RAISES_NO_SET, COUNTED, count=4, inside=[2, 0, 2]),
+    Routine(cuts.widest, RAISES_NO_SET, COUNTED, count=4),
+    Routine(cuts.closed_sets, RAISES_NO_SET, COUNTED, count=4, pairs=tuple(RIGHT["pairs"])),
+    Routine(cuts.least_sum, RAISES_NO_SET, WEIGHTED),
+    Routine(cuts.greatest_sum, RAISES_NO_SET, WEIGHTED),
+    Routine(cuts.least_sets, RAISES_NO_SET, WEIGHTED),
+    Routine(cuts.greatest_sets, RAISES_NO_SET, WEIGHTED),
+    Routine(cuts.all_sums, RAISES_NO_SET, WEIGHTED),
+    Routine(cuts.floor_carry, RAISES_NO_SET, WEIGHTED),
+    Routine(cuts.top_carry, RAISES_NO_SET, WEIGHTED),
+    Routine(cuts.floor_of, RAISES_NO_SET, {**WEIGHTED, "carry": "carry"}),
+    Routine(cuts.top_of, RAISES_NO_SET, {**WEIGHTED, "carry": "carry"}),
+    Routine(cuts.shows_least, NEVER, {**WEIGHTED, **SHOWN}, number=2, value=[]),
+    Routine(cuts.shows_greatest, NEVER, {**WEIGHTED, **SHOWN}, number=6, value=RIGHT["carry"][:1]),
+    Routine(cuts.least_rate, RAISES_NO_SET, {**WEIGHTED, "rates": "rates", "goal": "integer"}),
+    Routine(pasts.past_items, RAISES, PAST),
+    Routine(pasts.past_in, NEVER, {**S, "world": "world", "spots": "spots", "at": "spot"}),
+    Routine(pasts.sure_past, RAISES, PAST),
+    Routine(pasts.widest_past, RAISES, PAST),
+    Routine(pasts.pasts, RAISES, PAST),
+    Routine(pasts.is_past, NEVER, {**PAST, "value": "any"}, value=[0, 1]),
+    Routine(pasts.past_bar, RAISES, {**PAST, "row": "row"}),
+    Routine(pasts.past_world, RAISES, {**PAST, "row": "row"}),
 ]

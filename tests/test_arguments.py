@@ -4,9 +4,11 @@ import copy
 import inspect
 import unittest
 
+from dueanywhere import clocks
 from dueanywhere import errors
 from tests import helper
 from tests.routines import ROUTINES
+from tests.routines import WITHOUT
 from tests.routines import is_line
 
 LONG = [[0, 1]] * 2600
@@ -18,7 +20,11 @@ ANY_VALUES = [None, True, False, 0, -1, 1, 8, 10 ** 40 - 1, 1 - 10 ** 40, "", "r
               LONG, DEEP, tuple(LONG), [0] * 8000, [10 ** 39], (3, ()), (0, 2, 2), (0, 2, None), [0, 2, 2],
               ("never", 0), ("ring", [0]), ("never", True), ("never", -1), ("never", 2),
               ("ring", None), ("never", [0]), (True, 0), (None, None),
-              ["never", 0], ("ring", [4, 2, 0]), ("ring", [0], 0), errors.NoWorld([0]), [errors.NoWorld([0])]]
+              ["never", 0], ("ring", [4, 2, 0]), ("ring", [0], 0), errors.NoWorld([0]), [errors.NoWorld([0])],
+              ((), (1, 3)), ((1, 2),), (((),), (), ()), (0, 0, 5), (1, 1, 144000), (1, 2, 0), ("look", 0, 1, 0, None),
+              ("apart", 0, 0, 1, 0, 0, 0), ("look", 0, 1, None, None), ("apart", 0, 0), (("look",), 0, 1, 0, 0),
+              [(2, 1, 3)], [(2, 1, True)], [(2, 1, 0)], [(2, 1)], [(True, 0, 1)], [([2], 1, 3)], [(2, 1, 3)] * 2,
+              [(3, 1, 3), (2, 1, 3)], [(2, 1, 3), (2, 1, 4)], [(0, 3, 1)], [(2, 1, 3, 4)], [[2, 1, 3]], [3, 1], [3, True]]
 
 
 def outcome(call):
@@ -26,15 +32,23 @@ def outcome(call):
     try:
         return ("returns", call())
     except errors.DueError as error:
-        return ("raises", type(error), getattr(error, "ring", None))
+        return ("raises", type(error), getattr(error, "ring", None), getattr(error, "clash", None))
 
 
 def is_within_limits(routine, value):
-    """Whether a system has not far more points or worlds than the limits of use allow."""
+    """Whether a system or a cut has not far more points, worlds or items than the limits of use allow."""
+    if "pairs" in routine.args and helper.is_int(value):
+        return value <= 60
     if not helper.is_system(value):
         return True
     counts_worlds = routine.name in ("count_worlds", "worlds")
     return value[0] <= 24 and not (counts_worlds and any(bound[2] > 99 for bound in value[1]))
+
+
+def is_right_clash(args, found):
+    """Whether it is a clash by the words of point [24]."""
+    steps = set(zip(found, found[1:]))
+    return found[0] in args["inside"] and found[-1] in args["outside"] and steps <= set(args["pairs"])
 
 
 class EveryFunction(unittest.TestCase):
@@ -77,6 +91,11 @@ class EveryFunction(unittest.TestCase):
                 self.assertIsInstance(routine.call(), bool, routine.name)
 
 
+# What some functions raise behind all parameters, of right values that do not fit one another.
+LAST = {"worlds": errors.EndlessWorlds, "parting": errors.InvalidSystem, "world_with": errors.InvalidNumber,
+        "day_range": errors.Unsteady, "day_world": errors.Unsteady, "past_world": errors.InvalidPast}
+
+
 class WrongValues(unittest.TestCase):
     def assert_raises(self, routine, error, changed):
         with self.assertRaises(errors.DueError, msg=f"{routine.name} {changed}") as caught:
@@ -106,15 +125,23 @@ class WrongValues(unittest.TestCase):
         try:
             routine.call(**changed)
         except errors.NoWorld as error:
-            self.assertTrue(routine.need_world, routine.name)
-            self.assertTrue(helper.is_bad_ring(changed["system"], error.ring), routine.name)
-        except errors.EndlessWorlds:
-            self.assertEqual(routine.name, "worlds")
-        except errors.InvalidSystem:
-            self.assertEqual(routine.name, "parting")
-            self.assertNotEqual(changed["system"][0], changed["other_system"][0])
-        except errors.InvalidNumber:
-            self.assertEqual(routine.name, "world_with")
+            if "book" in changed:
+                self.assert_right_bar(changed["book"], error.ring)
+                self.assertTrue(routine.behind == "book" or routine.name == "moment" and error.ring == [])
+            else:
+                self.assertEqual(routine.behind, "system", routine.name)
+                self.assertTrue(helper.is_bad_ring(changed["system"], error.ring), routine.name)
+        except errors.NoSet as error:
+            self.assertEqual(routine.behind, "set", routine.name)
+            self.assertTrue(is_right_clash(changed, error.clash), routine.name)
+        except errors.DueError as error:
+            self.assertIs(type(error), LAST.get(routine.name), routine.name)
+
+    def assert_right_bar(self, book, ring):
+        if helper.is_void(book):
+            self.assertEqual(ring, [])
+        else:
+            self.assertTrue(helper.is_bad_ring(clocks.system_of(book), ring))
 
     def test_the_first_one_of_two_wrong_values_counts(self):
         for routine in ROUTINES:
@@ -124,36 +151,57 @@ class WrongValues(unittest.TestCase):
                     for value, other in zip(list(routine.wrong_values(first))[:25], routine.wrong_values(second)):
                         self.assert_raises(routine, routine.error(first), {first: value, second: other})
 
-    def test_parameters_come_ahead_of_no_world(self):
+    def test_parameters_come_ahead_of_what_is_behind_all_of_them(self):
         for routine in ROUTINES:
             for name in routine.args:
-                if name == "system" or routine.error(name) is None or not routine.need_world:
+                without = WITHOUT.get(routine.behind, {})
+                if not without or name == routine.behind or routine.error(name) is None:
                     continue
                 for value in routine.wrong_values(name):
-                    self.assert_raises(routine, routine.error(name), {"system": helper.BROKEN, name: value})
+                    self.assert_raises(routine, routine.error(name), {**without, name: value})
 
     def test_no_world_comes_with_a_bad_ring_of_the_system(self):
         for system in [helper.BROKEN] + [system for system in helper.some_systems(3, 300, 3, 7, 4) if system[0] == 3]:
             if helper.box_worlds(system, 6):
                 continue
             for routine in ROUTINES:
-                if routine.need_world:
+                if routine.behind == "system":
                     with self.assertRaises(errors.NoWorld, msg=routine.name) as caught:
                         routine.call(system=system)
                     self.assertTrue(helper.is_bad_ring(system, caught.exception.ring), routine.name)
 
-    def test_the_others_never_raise_no_world(self):
+    def test_no_world_comes_with_what_bars_the_book(self):
+        both = (helper.BOOK[0], helper.BOOK[1], helper.BROKEN_BOOK[2] + helper.VOID_BOOK[2])
+        for book in (helper.BROKEN_BOOK, helper.VOID_BOOK, both):
+            for routine in ROUTINES:
+                if routine.behind == "book":
+                    with self.assertRaises(errors.NoWorld, msg=routine.name) as caught:
+                        routine.call(book=book)
+                    self.assert_right_bar(book, caught.exception.ring)
+
+    def test_no_set_comes_with_a_clash(self):
         for routine in ROUTINES:
-            if not routine.need_world and "system" in routine.args:
-                told = outcome(lambda: routine.call(system=helper.BROKEN))
-                with_world = "world" in routine.args
-                self.assertEqual(told[:2] == ("raises", errors.InvalidWorld), with_world, routine.name)
-                self.assertEqual(told[0] == "returns", not with_world, routine.name)
+            if routine.behind == "set":
+                for outside in ([3], [1, 3], (1,), [0], [1, 1]):
+                    changed = {**routine.args, "inside": (0, 3), "outside": outside}
+                    with self.assertRaises(errors.NoSet, msg=routine.name) as caught:
+                        routine.call(**changed)
+                    self.assertTrue(is_right_clash(changed, caught.exception.clash), routine.name)
+
+    def test_the_others_never_raise_what_is_behind_all_parameters(self):
+        for routine in ROUTINES:
+            for kind in ("system", "book"):
+                if routine.behind != kind and kind in routine.args:
+                    told = outcome(lambda: routine.call(**WITHOUT[kind]))
+                    with_world = "world" in routine.args
+                    self.assertEqual(told[:2] == ("raises", errors.InvalidWorld), with_world, routine.name)
+                    self.assertEqual(told[0] == "returns", not with_world, routine.name)
+            if routine.behind != "set" and "inside" in routine.args:
+                self.assertEqual(outcome(lambda: routine.call(**WITHOUT["set"]))[0], "returns", routine.name)
 
     def test_equal_calls_have_equal_outcomes(self):
         for routine in ROUTINES:
-            for system in (helper.SYSTEM, helper.BROKEN):
-                changed = {"system": system} if "system" in routine.args else {}
+            for changed in ({}, WITHOUT.get(routine.behind, {})):
                 first = outcome(lambda: routine.call(**changed))
                 again = outcome(lambda: routine.call(**copy.deepcopy(changed)))
                 self.assertEqual(first, again, routine.name)
@@ -172,6 +220,7 @@ class AnyValues(unittest.TestCase):
             if "number" in routine.kinds:
                 for value in (None, True, False, "8", (8,), [8], ()):
                     self.assertIs(routine.call(number=value), False, routine.name)
+                self.assertIs(routine.call(), routine.name != "shows_far", routine.name)
 
     def test_lists_of_indexes_are_judged_part_by_part(self):
         for value in ([4, 2, False], [4, 2, "0"], (4, 2, 0), [4, 2, None], [4, 2, [0]], "420"):
