@@ -68,6 +68,11 @@ def day_range(book, entry_number, place):
     check_book(book)
     check_entry_number(book, entry_number)
     check_place(book, place)
+    return range_of_days(book, entry_number, place)
+
+
+def range_of_days(book, entry_number, place):
+    """What day_range returns; NoWorld and Unsteady likewise."""
     system = steady_system(book)
     places, entries, _ = book
     spot = entry_spot(places, entries[entry_number])

@@ -4,6 +4,7 @@ from dueanywhere.errors import InvalidBounds
 from dueanywhere.errors import InvalidClaims
 from dueanywhere.errors import InvalidIndex
 from dueanywhere.errors import InvalidItems
+from dueanywhere.errors import InvalidMoney
 from dueanywhere.errors import InvalidNumber
 from dueanywhere.errors import InvalidPairs
 from dueanywhere.errors import InvalidPoint
@@ -11,6 +12,11 @@ from dueanywhere.errors import InvalidSpots
 from dueanywhere.errors import InvalidSystem
 from dueanywhere.errors import InvalidWeights
 from dueanywhere.errors import InvalidWorld
+
+# In all worlds; in some, but not in all; in none.
+SURE = "sure"
+MAYBE = "maybe"
+NEVER = "never"
 
 
 def is_integer(value):
@@ -168,9 +174,33 @@ def check_claims(system, claims):
         check_claim(system, claim)
 
 
+def are_spots_with_amounts(system, value):
+    """Whether value is a list of tuples of a spot and an integer."""
+    if not isinstance(value, list) or not all([is_tuple_of(2, part) for part in value]):
+        return False
+    return all([is_spot(system, spot) and is_integer(amount) for spot, amount in value])
+
+
+def check_money(system, money):
+    """Raise InvalidMoney if these are no list of bills, or of payments."""
+    if not are_spots_with_amounts(system, money) or not all([amount >= 1 for _, amount in money]):
+        raise InvalidMoney("these are no list of tuples of a spot and an amount from 1 on")
+
+
+def check_uses(system, uses):
+    """Raise InvalidMoney if these are no list of uses, whose amounts are any integers."""
+    if not are_spots_with_amounts(system, uses):
+        raise InvalidMoney("these are no list of tuples of a spot and an amount")
+
+
+def are_integers(value):
+    """Whether value is a list of integers."""
+    return isinstance(value, list) and all([is_integer(part) for part in value])
+
+
 def check_integers(weights):
     """Raise InvalidWeights if these are no list of integers."""
-    if not isinstance(weights, list) or not all([is_integer(weight) for weight in weights]):
+    if not are_integers(weights):
         raise InvalidWeights("these are no list of integers")
 
 

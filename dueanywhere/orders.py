@@ -3,8 +3,8 @@
 The functions of the interface check what they are passed; the others here are passed checked values.
 """
 
-from dueanywhere.bounds import all_gaps
 from dueanywhere.bounds import gap_over
+from dueanywhere.bounds import gaps_over
 from dueanywhere.bounds import has_world
 from dueanywhere.bounds import is_bad_ring
 from dueanywhere.bounds import need_world
@@ -85,10 +85,15 @@ def claimed(system, claims):
     return claimed_system(system, claims)
 
 
+def bounds_of_claims(claims):
+    """The bounds of the claims of unlike points."""
+    told = [claim_bound(claim) for claim in claims]
+    return [(i, j, most) for i, j, most in told if i != j]
+
+
 def claimed_system(system, claims):
     """What claimed returns."""
-    told = [claim_bound(claim) for claim in claims]
-    return with_bounds(system, [(i, j, most) for i, j, most in told if i != j])
+    return with_bounds(system, bounds_of_claims(claims))
 
 
 def never_holds(claim):
@@ -237,14 +242,24 @@ def line_world(system, spots, line):
     return world_of(claimed_system(system, claims))
 
 
+def raised(most, amount):
+    """A greatest gap with an amount more, None if there is none."""
+    return None if most is None else most + amount
+
+
+def gaps_of_spots(system, spots):
+    """The list of lists of greatest gaps in a system with a world: entry b of list a is that of spot a over spot b."""
+    columns = {}
+    for point in sorted(set([point for point, _ in spots])):
+        columns[point] = gaps_over(system, point)[0]
+    return [[raised(columns[j][i], shift - other_shift) for j, other_shift in spots] for i, shift in spots]
+
+
 def system_of_spots(system, spots):
     """The system of the greatest gaps of the spots alone, each spot being a point, in a system with a world."""
-    gaps = all_gaps(system)
     found = []
-    for a, (i, shift) in enumerate(spots):
-        for b, (j, other_shift) in enumerate(spots):
-            if a != b and gaps[i][j] is not None:
-                found.append((a, b, gaps[i][j] + shift - other_shift))
+    for a, row in enumerate(gaps_of_spots(system, spots)):
+        found.extend([(a, b, most) for b, most in enumerate(row) if a != b and most is not None])
     return (len(spots), tuple(found))
 
 

@@ -1,12 +1,17 @@
 """All functions of the interface with right arguments for each, and what each argument must be."""
 
 from dueanywhere import bounds
+from dueanywhere import charges
 from dueanywhere import clocks
+from dueanywhere import closings
 from dueanywhere import cuts
 from dueanywhere import days
 from dueanywhere import errors
+from dueanywhere import looks
+from dueanywhere import money
 from dueanywhere import orders
 from dueanywhere import pasts
+from dueanywhere import prices
 from dueanywhere import worlds
 from tests import helper
 
@@ -23,6 +28,16 @@ RIGHT = {
     "month": 2, "term": ("open", 3), "holidays": (-7, 2, 102),
     "weights": [5, -3, 4, 9], "pairs": [(2, 1), (3, 0), (3, 1), (2, 1)], "inside": [0], "outside": [3],
     "carry": [(2, 1, 3), (3, 1, 1)], "rates": [0, 1, 0, 2], "goal": 10, "at": (1, 12), "row": [0, 1],
+    "bills": [((0, 0), 4), ((1, 3), 5)], "payments": [((0, 6), 3), ((1, 4), 2), ((2, 2), 6)], "payment": 1,
+    "held": (1, 2), "dues": [(0, 9), (2, 1)], "transfers": [((1, 0), (2, 0), 7), ((0, 0), (1, 0), 5)],
+    "spot": (2, 1), "marks": [(1, 3), (1, 5)], "costs": [[1, 2, 3], [0, -4, 0], [5, 5, 5]], "prices": [4, -1, 2],
+    "uses": [((1, 4), 3), ((2, 0), -2), ((0, 7), 0)], "first": (1, 0), "last": (2, 4), "second": (2, 4),
+    "charges": [((0, 0), (1, 0), 4, 2, 3), ((1, 1), (2, 0), 0, 1, 0)], "delay": 5,
+    "tariffs": [((1, 0), 0, ((1, 5), (9, 7))), ((2, 0), -1, ())], "home": 0, "posting": 1, "closing": 1,
+    "news": [("post", (1, 0), 5), ("close", 4), ("post", (2, -1), -3), ("bound", 2, 0, 7), ("close", 6)],
+    "question": [2, -1, 3], "looks": [((0, 0), (1, 0), 2, 4), ((1, 1), (2, 1), 1, 9), ((2, 0), (0, 0), -8, 8)],
+    "answer": 4, "couples": [((0, 0), (1, 3)), ((1, 0), (1, 2))], "most": 6,
+    "offers": [((0, 0), (1, 0), 2), ((1, 0), (2, 0), 5), ((2, 0), (2, 1), 0)], "many": 4,
 }
 
 
@@ -84,7 +99,157 @@ def places_of(args):
     return args["places"] if "places" in args else args["book"][0]
 
 
+def are_spots_with(system, value, least):
+    """Whether value is a list of tuples of a spot and an integer from least on."""
+    return (type(value) is list and all(type(part) is tuple and len(part) == 2 for part in value)
+            and all(helper.is_spot(system, spot) and helper.is_int(amount) and (least is None or amount >= least)
+                    for spot, amount in value))
+
+
+def are_money(args, value):
+    return are_spots_with(args["system"], value, 1)
+
+
+def are_transfers(args, value):
+    """Whether value is a list of transfers that are told rightly, whenever they arrive."""
+    system = args["system"]
+    return (type(value) is list and all(type(part) is tuple and len(part) == 3 for part in value)
+            and all(helper.is_spot(system, leaving) and helper.is_spot(system, arriving) and helper.is_int(amount)
+                    and amount >= 1 for leaving, arriving, amount in value))
+
+
+def are_marks(args, value):
+    if type(value) is not list or not 1 <= len(value) <= 8:
+        return False
+    if not all(helper.is_spot(args["system"], spot) for spot in value):
+        return False
+    shifts = [shift for _, shift in value]
+    return len({point for point, _ in value}) == 1 and shifts == sorted(set(shifts))
+
+
+def are_prices(args, value):
+    return are_integers(args, value) and len(value) == len(args["marks"]) + 1
+
+
+def are_costs(args, value):
+    return (type(value) is list and len(value) == len(args["spots"])
+            and all(are_prices(args, row) for row in value))
+
+
+def is_stage_row(args, value):
+    return (type(value) is list and len(value) == len(args["spots"])
+            and all(helper.is_index(len(args["marks"]) + 1, part) for part in value))
+
+
+def is_charge(system, value):
+    return (type(value) is tuple and len(value) == 5 and helper.is_spot(system, value[0])
+            and helper.is_spot(system, value[1]) and all(helper.is_int(part) for part in value[2:])
+            and min(value[3:]) >= 0)
+
+
+def is_tariff(system, value):
+    if type(value) is not tuple or len(value) != 3 or not helper.is_spot(system, value[0]):
+        return False
+    _, base, steps = value
+    if not helper.is_int(base) or type(steps) is not tuple:
+        return False
+    if not all(type(step) is tuple and len(step) == 2 and all(helper.is_int(part) for part in step) for step in steps):
+        return False
+    begins, amounts = [step[0] for step in steps], [base] + [step[1] for step in steps]
+    return begins == sorted(set(begins)) and amounts == sorted(set(amounts))
+
+
+def is_told(system, value):
+    """Whether value is one of the news."""
+    if type(value) is not tuple or len(value) < 2:
+        return False
+    if value[0] == "post":
+        return len(value) == 3 and helper.is_spot(system, value[1]) and helper.is_int(value[2])
+    if value[0] == "bound":
+        return helper.is_bound(system[0], value[1:])
+    return value[0] == "close" and len(value) == 2 and helper.is_int(value[1])
+
+
+def are_news(args, value):
+    if type(value) is not list or not all(is_told(args["system"], part) for part in value):
+        return False
+    shifts = told_of(value, "close")
+    return shifts == sorted(set(shifts))
+
+
+def told_of(news, kind):
+    return [part[1] for part in news if part[0] == kind]
+
+
+def is_question(args, value):
+    return are_integers(args, value) and len(value) == len(told_of(args["news"], "close")) + 1
+
+
+def is_many_behind(args, value):
+    """Whether value is a number of news among which the closing is."""
+    ends = [at + 1 for at, part in enumerate(args["news"]) if part[0] == "close"]
+    return value is None or helper.is_int(value) and ends[args["closing"]] <= value <= len(args["news"])
+
+
+def is_look(system, value):
+    return (type(value) is tuple and len(value) == 4 and helper.is_spot(system, value[0])
+            and helper.is_spot(system, value[1]) and value[0][0] != value[1][0]
+            and helper.is_int(value[2]) and helper.is_int(value[3]) and value[2] <= value[3])
+
+
+def is_couple(system, value):
+    return type(value) is tuple and len(value) == 2 and all(helper.is_spot(system, spot) for spot in value)
+
+
+def is_offer(system, value):
+    return (type(value) is tuple and len(value) == 3 and is_couple(system, value[:2]) and helper.is_int(value[2])
+            and value[2] >= 0)
+
+
+def known_by(args):
+    """The system whose worlds a call is about."""
+    system = args["system"]
+    if "news" in args:
+        news = args["news"][:args.get("many")]
+        return (system[0], system[1] + tuple(part[1:] for part in news if part[0] == "bound"))
+    if "looks" in args:
+        told = []
+        for (p, a), (q, b), least, most in args["looks"]:
+            told += [(q, p, most - b + a), (p, q, b - a - least)]
+        return (system[0], system[1] + tuple(told))
+    return system
+
+
+def list_of(judge):
+    """A judge of lists of what a judge of a system takes."""
+    return lambda args, value: type(value) is list and all(judge(args["system"], part) for part in value)
+
+
 JUDGES = {
+    "money": (are_money, errors.InvalidMoney),
+    "uses": (lambda args, value: are_spots_with(args["system"], value, None), errors.InvalidMoney),
+    "bill": (lambda args, value: helper.is_index(len(args["bills"]), value), errors.InvalidIndex),
+    "payment": (lambda args, value: helper.is_index(len(args["payments"]), value), errors.InvalidIndex),
+    "dues": (lambda args, value: are_spots(args, value) and len(value) == len(args["bills"]), errors.InvalidSpots),
+    "transfers": (are_transfers, errors.InvalidTransfers),
+    "marks": (are_marks, errors.InvalidMarks),
+    "stages": (is_stage_row, errors.InvalidStaging),
+    "costs": (are_costs, errors.InvalidCosts),
+    "prices": (are_prices, errors.InvalidCosts),
+    "charges": (list_of(is_charge), errors.InvalidCharges),
+    "tariffs": (list_of(is_tariff), errors.InvalidTariffs),
+    "news": (are_news, errors.InvalidNews),
+    "question": (is_question, errors.InvalidQuestion),
+    "posting": (lambda args, value: helper.is_index(len(told_of(args["news"], "post")), value), errors.InvalidIndex),
+    "closing": (lambda args, value: helper.is_index(len(told_of(args["news"], "close")), value), errors.InvalidIndex),
+    "many": (lambda args, value: value is None or helper.is_index(len(args["news"]) + 1, value), errors.InvalidNumber),
+    "many behind": (is_many_behind, errors.InvalidNumber),
+    "known world": (lambda args, value: helper.is_world(known_by(args), value), errors.InvalidWorld),
+    "looks": (list_of(is_look), errors.InvalidLooks),
+    "couples": (list_of(is_couple), errors.InvalidCouples),
+    "offers": (list_of(is_offer), errors.InvalidOffers),
+    "unlike spot": (lambda args, value: helper.is_spot(args["system"], value) and value[0] != args["first"][0],
+                    errors.InvalidSpots),
     "system": (lambda args, value: helper.is_system(value), errors.InvalidSystem),
     "bounds": (are_bounds, errors.InvalidBounds),
     "point": (lambda args, value: helper.is_index(args["system"][0], value), errors.InvalidPoint),
@@ -134,15 +299,18 @@ WITHOUT = {"system": {"system": helper.BROKEN}, "book": {"book": helper.BROKEN_B
 class Routine:
     """A function, its right arguments in their order, what each must be, and what it raises behind all of them."""
 
-    def __init__(self, function, behind, kinds, **others):
+    def __init__(self, function, behind, kinds, by_name=(), **others):
         self.function = function
         self.name = function.__name__
         self.behind = behind
         self.kinds = kinds
+        self.by_name = by_name
         self.args = {name: {**RIGHT, **others}[name] for name in kinds}
 
     def call(self, **changed):
-        return self.function(*{**self.args, **changed}.values())
+        told = {**self.args, **changed}
+        named = {name: told.pop(name) for name in self.by_name}
+        return self.function(*told.values(), **named)
 
     def is_right(self, name, value, args):
         return JUDGES[self.kinds[name]][0](args, value)
@@ -169,6 +337,24 @@ COUNTED = {"count": "natural", **CUT}
 WEIGHTED = {"weights": "weights", **CUT}
 PAST = {**S, "spots": "spots", "at": "spot"}
 DUE = {"term": "term", "holidays": "holidays"}
+
+BILLS = {**S, "bills": "money", "payments": "money"}
+PAID_IN = {**S, "world": "world", "bills": "money", "payments": "money"}
+STAGES = {**S, "spots": "spots", "marks": "marks"}
+COSTS = {**STAGES, "costs": "costs"}
+CHARGES = {**S, "charges": "charges"}
+CHARGES_IN = {**CHARGES, "world": "world"}
+RISING = {**S, "held": "spot", "tariffs": "tariffs"}
+NEWS = {**S, "home": "point", "news": "news"}
+POSTING = {**NEWS, "posting": "posting"}
+CLOSING = {**NEWS, "closing": "closing"}
+QUESTION = {**NEWS, "question": "question"}
+LOOKS = {**S, "looks": "looks"}
+QUARREL = {"one": "spot", "other": "spot"}
+BOTH_SPOTS = {"first": "spot", "second": "unlike spot"}
+# The tree shows that one of two looks must be distrusted; the bounds of the looks are 4 to 7.
+ODD_LOOKS = [((0, 0), (1, 0), 2, 4), ((0, 0), (1, 0), 5, 9)]
+TREE = ([4, 7], [(0, None), (1, None)])
 
 ROUTINES = [
     Routine(bounds.is_system, NEVER, {"value": "any"}),
@@ -271,4 +457,64 @@ ROUTINES = [
     Routine(pasts.is_past, NEVER, {**PAST, "value": "any"}, value=[0, 1]),
     Routine(pasts.past_bar, RAISES, {**PAST, "row": "row"}),
     Routine(pasts.past_world, RAISES, {**PAST, "row": "row"}),
+    Routine(money.paid, RAISES, {**S, "payments": "money", "at": "spot"}),
+    Routine(money.arrears, RAISES, {**BILLS, "at": "spot"}),
+    Routine(money.arrears_parts, RAISES, {**BILLS, "at": "spot"}),
+    Routine(money.cleared, RAISES, {**BILLS, "index": "bill", "at": "spot"}),
+    Routine(money.clearing, RAISES, {**BILLS, "index": "bill", "held": "spot"}),
+    Routine(money.clearing_in, NEVER, {**PAID_IN, "index": "bill"}),
+    Routine(money.late, RAISES, {**BILLS, "dues": "dues"}),
+    Routine(money.shares, RAISES, {**BILLS, "payment": "payment", "index": "bill"}),
+    Routine(money.shares_in, NEVER, PAID_IN),
+    Routine(money.in_flight, RAISES, {**S, "transfers": "transfers", "at": "spot"}),
+    Routine(prices.stage_range, RAISES, {**S, "spot": "spot", "marks": "marks"}),
+    Routine(prices.staging_in, NEVER, {**S, "world": "world", "spots": "spots", "marks": "marks"}),
+    Routine(prices.is_staging, NEVER, {**STAGES, "value": "any"}, value=[2, 2, 2]),
+    Routine(prices.staging_world, RAISES, {**STAGES, "row": "stages"}, row=[2, 2, 2]),
+    Routine(prices.stagings, RAISES, STAGES),
+    Routine(prices.stage_parts, RAISES, COSTS),
+    Routine(prices.totals, RAISES, COSTS),
+    Routine(prices.price_totals, RAISES, {**S, "uses": "uses", "marks": "marks", "prices": "prices"}),
+    Routine(prices.cheapest_staging, RAISES, COSTS),
+    Routine(prices.dearest_staging, RAISES, COSTS),
+    Routine(prices.between, RAISES, {**S, "spots": "spots", "weights": "amounts", "first": "spot", "last": "spot"},
+            weights=[7, -3, 2]),
+    Routine(charges.total, NEVER, CHARGES_IN),
+    Routine(charges.least_total, RAISES, CHARGES),
+    Routine(charges.best_world, RAISES, CHARGES),
+    Routine(charges.best_system, RAISES, CHARGES),
+    Routine(charges.is_best, NEVER, CHARGES_IN),
+    Routine(charges.better_move, NEVER, CHARGES_IN),
+    Routine(charges.balance, RAISES, CHARGES),
+    Routine(charges.balance_tells, NEVER, {**CHARGES, "value": "any"}, value=([-2, 0], [0, 2, 0, 0])),
+    Routine(charges.least_with, RAISES, {**CHARGES, "first": "spot", "second": "spot", "delay": "integer"}),
+    Routine(charges.rising_range, RAISES, RISING),
+    Routine(charges.rising_worlds, RAISES, RISING),
+    Routine(closings.known, NEVER, {**NEWS, "many": "many"}, by_name=("many",)),
+    Routine(closings.period_in, NEVER, {**POSTING, "world": "known world"}),
+    Routine(closings.own_period_in, NEVER, {**POSTING, "world": "known world"}),
+    Routine(closings.periods, RAISES, POSTING),
+    Routine(closings.lateness, RAISES, POSTING),
+    Routine(closings.booked, NEVER, {**NEWS, "world": "known world"}),
+    Routine(closings.answer_range, RAISES, QUESTION),
+    Routine(closings.answer_worlds, RAISES, QUESTION),
+    Routine(closings.report, RAISES, {**CLOSING, "many": "many behind"}, by_name=("many",), closing=0),
+    Routine(closings.report_history, RAISES, CLOSING, closing=0),
+    Routine(closings.cells, RAISES, NEWS),
+    Routine(closings.cell_parts, RAISES, QUESTION),
+    Routine(looks.with_looks, NEVER, LOOKS),
+    Routine(looks.agree, RAISES, LOOKS),
+    Routine(looks.distrusted, RAISES, LOOKS, looks=ODD_LOOKS),
+    Routine(looks.distrust_tree, RAISES, LOOKS, looks=ODD_LOOKS),
+    Routine(looks.shows_distrust, NEVER, {**LOOKS, **SHOWN}, looks=ODD_LOOKS, number=1, value=TREE),
+    Routine(looks.answers, RAISES, {**S, "first": "spot", "second": "spot"}),
+    Routine(looks.with_answer, RAISES, {**S, **BOTH_SPOTS, "answer": "integer"}),
+    Routine(looks.open_answers, RAISES, {**S, **BOTH_SPOTS, **QUARREL}),
+    Routine(looks.settles, RAISES, {**S, "couples": "couples", **QUARREL}),
+    Routine(looks.doubt, RAISES, {**S, "couples": "couples", **QUARREL}),
+    Routine(looks.is_doubt, NEVER, {**S, "couples": "couples", **QUARREL, "value": "any"},
+            value=((0, 3, 5), ([2], -1))),
+    Routine(looks.cheapest, RAISES, {**S, "offers": "offers", **QUARREL}),
+    Routine(looks.forced_by, RAISES, {**LOOKS, "first": "spot", "second": "spot", "most": "integer"}),
+    Routine(looks.idle_looks, RAISES, LOOKS),
 ]

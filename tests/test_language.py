@@ -7,14 +7,20 @@ import unittest
 
 PACKAGE = pathlib.Path(__file__).resolve().parent.parent / "dueanywhere"
 BUILTINS = {"len", "range", "enumerate", "zip", "min", "max", "sum", "abs", "sorted", "reversed", "int", "str", "bool",
-            "list", "tuple", "dict", "set", "isinstance", "repr", "any", "all", "divmod", "ValueError"}
+            "list", "tuple", "dict", "set", "isinstance", "repr", "any", "all", "divmod", "iter", "ValueError"}
 LIBRARY = {"heapq": {"heappush", "heappop"}, "math": {"gcd", "lcm", "isqrt", "comb"}}
 METHODS = {"append", "extend", "insert", "pop", "get", "items", "keys", "values", "index", "count", "find", "join",
-           "split", "isdigit", "startswith", "endswith", "setdefault", "add", "copy", "reverse", "__init__"}
+           "split", "isdigit", "startswith", "endswith", "setdefault", "add", "copy", "reverse", "partition",
+           "__init__"}
+OWN_METHODS = {"bill", "pay", "send", "tie", "close", "undo", "begin", "keep", "drop", "twin", "system", "spot", "mark",
+               "day_range", "arrears", "in_flight", "cleared", "clearing", "late", "report", "present", "rest",
+               "execute"}
+PROPERTIES = {"places", "log", "book", "depth"}
 BARRED = (ast.Global, ast.AsyncFunctionDef, ast.Await, ast.Div, ast.GeneratorExp, ast.Try, ast.With, ast.Starred,
           ast.Set, ast.Delete, ast.JoinedStr)
 # Of the barred ones LANGUAGE.md allows some with conditions; what is used here is named, and its conditions hold.
-USED = {"kinds.py": (ast.JoinedStr,)}
+# A try holds one call of an own function, and catches an own error.
+USED = {"kinds.py": (ast.JoinedStr,), "words.py": (ast.JoinedStr,), "console.py": (ast.Try,), "house.py": (ast.Try,)}
 
 
 def files():
@@ -45,7 +51,13 @@ class Files(unittest.TestCase):
             for node in ast.walk(tree):
                 if isinstance(node, ast.FunctionDef):
                     self.assertLessEqual(node.end_lineno - node.lineno + 1, 40, f"{path} {node.name}")
-                    self.assertEqual(node.decorator_list, [], f"{path} {node.name}")
+
+    def test_properties_alone_are_decorated(self):
+        for path, tree in trees():
+            for node in ast.walk(tree):
+                if isinstance(node, (ast.FunctionDef, ast.ClassDef)):
+                    told = [decorator.id for decorator in node.decorator_list]
+                    self.assertEqual(told, ["property"] if node.name in PROPERTIES else [], f"{path} {node.name}")
 
     def test_everything_has_a_docstring(self):
         for path, tree in trees():
@@ -114,10 +126,13 @@ class Names(unittest.TestCase):
     def test_only_told_builtins_and_methods_are_called(self):
         for path, tree in trees():
             for node in ast.walk(tree):
-                if isinstance(node, ast.Name) and node.id in dir(builtins):
+                if isinstance(node, ast.Name) and node.id in dir(builtins) and node.id != "property":
                     self.assertIn(node.id, BUILTINS, f"{path} {node.lineno}")
                 if isinstance(node, ast.Call) and isinstance(node.func, ast.Attribute):
-                    self.assertIn(node.func.attr, METHODS, f"{path} {node.lineno}")
+                    name = node.func.attr
+                    own = isinstance(node.func.value, ast.Name) and node.func.value.id in ("self", "found")
+                    known = METHODS | OWN_METHODS
+                    self.assertTrue(name in known or own and name.startswith("_"), f"{path} {node.lineno} {name}")
 
 
 def imported(tree):
@@ -127,7 +142,7 @@ def imported(tree):
 def local_names(function):
     """The parameters of a function and what it assigns."""
     stored = {node.id for node in ast.walk(function) if isinstance(node, ast.Name) and isinstance(node.ctx, ast.Store)}
-    return stored | {argument.arg for argument in function.args.args}
+    return stored | {argument.arg for argument in function.args.args + function.args.kwonlyargs}
 
 
 class Statements(unittest.TestCase):
@@ -136,6 +151,14 @@ class Statements(unittest.TestCase):
             barred = tuple(kind for kind in BARRED if kind not in USED.get(path.name, ()))
             for node in ast.walk(tree):
                 self.assertNotIsInstance(node, barred, f"{path} {getattr(node, 'lineno', 0)}")
+
+    def test_own_errors_alone_are_caught_around_one_call(self):
+        for path, tree in trees():
+            for node in ast.walk(tree):
+                if isinstance(node, ast.Try):
+                    self.assertEqual((len(node.body), len(node.handlers), node.finalbody), (1, 1, []), path)
+                    self.assertIsInstance(node.body[0].value, ast.Call, path)
+                    self.assertIn(node.handlers[0].type.id, ("DueError", "InvalidWords"), path)
 
     def test_constants(self):
         for path, tree in trees():
