@@ -192,11 +192,8 @@ def better_move(system, charges, world):
     """A move to a world with a lesser total, None if the world is best."""
     check_asked(system, charges)
     check_world(system, world)
-    best = world_of(system_of_best(system, charges))
-    if total_in(charges, world) == total_in(charges, best):
-        return None
     # Totals are convex, and along a way to a best world they come down; so one of its moves betters the world itself.
-    for move in moves_towards(world, best):
+    for move in moves_towards(world, world_of(system_of_best(system, charges))):
         moved, way = move
         there = tuple([moment + way if point in moved else moment for point, moment in enumerate(world)])
         if not breaks(system, there) and total_in(charges, there) < total_in(charges, world):

@@ -129,7 +129,7 @@ def transfers_of(places, log):
 def sequence_of_bills(log):
     """The numbers of the bills as the creditor has them: by their readings, those of one reading by their numbers."""
     readings = [entry[2] for _, entry, _ in deeds_of(log, "bill")]
-    return [number for _, number in sorted([(reading, number) for number, reading in enumerate(readings)])]
+    return [number for _, number in sorted([(reading, bill) for bill, reading in enumerate(readings)])]
 
 
 def news_of(places, log):

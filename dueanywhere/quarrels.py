@@ -42,7 +42,7 @@ def raised_points(system, couples, one, other):
     for leader in sorted(set(leaders)):
         if leader not in rows[0]:
             rows = [{**row, leader: told} for row in rows for told in (False, True)]
-    return [[row[leader] for leader in leaders] for row in rows]
+    return [[row[point] for point in leaders] for row in rows]
 
 
 def coupled(system, couples):

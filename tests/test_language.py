@@ -16,6 +16,7 @@ OWN_METHODS = {"bill", "pay", "send", "tie", "close", "undo", "begin", "keep", "
                "day_range", "arrears", "in_flight", "cleared", "clearing", "late", "report", "present", "rest",
                "execute"}
 PROPERTIES = {"places", "log", "book", "depth"}
+COMPREHENSIONS = (ast.ListComp, ast.DictComp, ast.SetComp)
 BARRED = (ast.Global, ast.AsyncFunctionDef, ast.Await, ast.Div, ast.GeneratorExp, ast.Try, ast.With, ast.Starred,
           ast.Set, ast.Delete, ast.JoinedStr)
 # Of the barred ones LANGUAGE.md allows some with conditions; what is used here is named, and its conditions hold.
@@ -123,6 +124,15 @@ class Names(unittest.TestCase):
                 if isinstance(node, ast.FunctionDef):
                     self.assertFalse(local_names(node) & barred, f"{path} {node.name} {local_names(node) & barred}")
 
+    def test_inner_comprehensions_have_names_of_their_own(self):
+        for path, tree in trees():
+            for function in [node for node in ast.walk(tree) if isinstance(node, ast.FunctionDef)]:
+                for outer in [node for node in ast.walk(function) if isinstance(node, COMPREHENSIONS)]:
+                    for inner in [node for node in ast.walk(outer) if isinstance(node, COMPREHENSIONS)]:
+                        if inner is not outer:
+                            others = names_outside(function) | targets_of(outer)
+                            self.assertFalse(targets_of(inner) & others, f"{path} {inner.lineno}")
+
     def test_only_told_builtins_and_methods_are_called(self):
         for path, tree in trees():
             for node in ast.walk(tree):
@@ -142,6 +152,19 @@ def imported(tree):
 def local_names(function):
     """The parameters of a function and what it assigns."""
     stored = {node.id for node in ast.walk(function) if isinstance(node, ast.Name) and isinstance(node.ctx, ast.Store)}
+    return stored | {argument.arg for argument in function.args.args + function.args.kwonlyargs}
+
+
+def targets_of(comprehension):
+    """The names that a comprehension assigns itself."""
+    return {node.id for part in comprehension.generators for node in ast.walk(part.target) if isinstance(node, ast.Name)}
+
+
+def names_outside(function):
+    """The parameters of a function, and what it assigns outside of comprehensions."""
+    within = {id(node) for part in ast.walk(function) if isinstance(part, COMPREHENSIONS) for node in ast.walk(part)}
+    stored = {node.id for node in ast.walk(function)
+              if isinstance(node, ast.Name) and isinstance(node.ctx, ast.Store) and id(node) not in within}
     return stored | {argument.arg for argument in function.args.args + function.args.kwonlyargs}
 
 
