@@ -193,10 +193,11 @@ def better_move(system, charges, world):
     check_asked(system, charges)
     check_world(system, world)
     # Totals are convex, and along a way to a best world they come down; so one of its moves betters the world itself.
+    # Each of these moves, if made first, leads to a world, too: all differences stay between those of both ends.
     for move in moves_towards(world, world_of(system_of_best(system, charges))):
         moved, way = move
         there = tuple([moment + way if point in moved else moment for point, moment in enumerate(world)])
-        if not breaks(system, there) and total_in(charges, there) < total_in(charges, world):
+        if total_in(charges, there) < total_in(charges, world):
             return move
     return None
 
@@ -211,11 +212,6 @@ def moves_towards(world, other_world):
         if rise < 0:
             found.append(([point for point, more in enumerate(rises) if more <= rise], -1))
     return found
-
-
-def breaks(system, moments):
-    """Whether moments break a bound."""
-    return any([moments[i] - moments[j] > most for i, j, most in system[1]])
 
 
 def balance(system, charges):
@@ -324,11 +320,10 @@ def rising_worlds(system, held, tariffs):
     check_rising(system, held, tariffs)
     need_world(system)
     low, high = [], []
-    for spot, _, steps in tariffs:
+    # Seen from the held spot, what is least and what is greatest for each spot comes in one world for all. A tariff
+    # without steps comes to one thing.
+    for spot, _, steps in [tariff for tariff in tariffs if tariff[2]]:
         least, greatest = gap_ends(system, held, spot)
-        # Seen from the held spot, what is least and what is greatest for each spot comes in one world for all.
-        if least is not None or steps:
-            low.append((spot, held, steps[0][0] - 1 if least is None else least))
-        if greatest is not None or steps:
-            high.append((held, spot, -steps[-1][0] if greatest is None else -greatest))
+        low.append((spot, held, steps[0][0] - 1 if least is None else least))
+        high.append((held, spot, -steps[-1][0] if greatest is None else -greatest))
     return (world_of(claimed_system(system, low)), world_of(claimed_system(system, high)))

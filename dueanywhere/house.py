@@ -369,7 +369,6 @@ def joined(house, other_house):
         raise ClosedAlready("the second house has a closing")
     count = len(house.book[1])
     log = house.log + [moved_deed(deed, count) for deed in other_house.log]
-    fitting_book(house.places, log)
     found = House(house.places)
     for deed in log:
         do_deed(found, deed)

@@ -122,16 +122,16 @@ def stretch_at(words, place):
 
 def stretch_in(text, place):
     """The tuple of a place and of a stretch there that a text tells, a word or the first part of one."""
-    ahead, dot, behind = text.partition(".")
-    if dot == "" or not is_number_word(ahead) or not is_number_word(behind):
+    ahead, _, behind = text.partition(".")
+    if not is_number_word(ahead) or not is_number_word(behind):
         raise InvalidWords(place)
     return (int(ahead), int(behind))
 
 
 def entry_at(words, place):
     """An entry."""
-    ahead, at, reading = word_at(words, place).partition("@")
-    if at == "" or not is_integer_word(reading):
+    ahead, _, reading = word_at(words, place).partition("@")
+    if not is_integer_word(reading):
         raise InvalidWords(place)
     return stretch_in(ahead, place) + (int(reading),)
 

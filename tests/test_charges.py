@@ -259,6 +259,17 @@ class Edges(unittest.TestCase):
         self.assertEqual(charges.least_total(SYSTEM, told), 12)
         self.assertEqual(charges.best_world(SYSTEM, told)[1], 8)
 
+    def test_points_that_no_bounds_join(self):
+        told = [((0, 0), (1, 0), 0, 2, 2), ((0, 0), (1, 0), 9, 3, 1), ((2, 0), (3, 0), 0, 2, 2), ((2, 0), (3, 0), 5, 1, 3)]
+        for row in (told, told[::-1], told[2:] + told[:2]):
+            for system in ((4, ()), (5, ()), (4, ((1, 0, 99), (3, 2, 99)))):
+                self.assertEqual(charges.least_total(system, row), 18 + 5)
+                value = charges.balance(system, row)
+                self.assertTrue(is_balance(system, row, value))
+                self.assertEqual(told_by(system, row, value), 23)
+                world = charges.best_world(system, row)
+                self.assertEqual([world[1], world[3] - world[2]], [9, 0])
+
     def test_both_spots_of_one_point(self):
         told = [((1, 2), (1, 9), 5, 4, 3), ((2, 2), (2, 9), 9, 4, 3), ((0, 0), (0, 5), 5, 7, 7)]
         self.assertEqual(charges.least_total(SYSTEM, told), 6 + 8)

@@ -574,6 +574,16 @@ class Debts(unittest.TestCase):
         house.tie(("apart", 0, 0, 1, 0, 1440, None))
         self.assertEqual([house.report(0), house.present(0), house.rest()], [(0, 4), (4, 4), (-4, -4)])
 
+    def test_entries_tell_when_clocks_were_changed(self):
+        house = House(((), (1,)))
+        house.tie(("apart", 0, 0, 1, 1, 0, 0))
+        house.pay((1, 0, 50), 5)
+        house.close(-1)
+        self.assertEqual([house.report(-1), house.present(-1), house.rest()], [(-5, 0), (-5, 0), (-5, 0)])
+        # The clock was changed at 0 at the latest, and the first payment came ahead of that.
+        house.pay((1, 1, 0), 1)
+        self.assertEqual([house.report(-1), house.present(-1), house.rest()], [(-5, 0), (-5, -5), (-1, -1)])
+
     def test_what_is_told_behind_a_closing_is_not_in_it(self):
         house = House(((),))
         house.bill((0, 0, 5), 4)

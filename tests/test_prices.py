@@ -7,6 +7,7 @@ import unittest
 from dueanywhere import cuts
 from dueanywhere import errors
 from dueanywhere import prices
+from dueanywhere.orders import gap
 from tests import helper
 from tests.helper import BIG
 
@@ -162,6 +163,25 @@ class AllWorlds(unittest.TestCase):
                 told = [between_in(world, spots, weights, first, last) for world in found]
                 self.assertEqual(prices.between(system, spots, weights, first, last), ends_of(told))
         self.assertGreater(min(seen.values()), 60)
+
+    def test_sums_between_without_a_box(self):
+        rolls = random.Random(9)
+        seen = {"ends": 0, "no ends": 0}
+        for system in helper.with_worlds(10, 500, 3, 3, 2):
+            spots = some_spots(rolls, system, 4, 2)
+            weights = [rolls.randint(-5, 5) for _ in spots]
+            first = (rolls.randrange(system[0]), rolls.randint(-2, 2))
+            last = (rolls.randrange(system[0]), first[1] + rolls.randint(0, 6))
+            least, greatest = gap(system, first, last)
+            if least is None or least < 0 or greatest is None:
+                with self.assertRaises(errors.InvalidSpan):
+                    prices.between(system, spots, weights, first, last)
+                continue
+            told = [between_in(world, spots, weights, first, last) for world in helper.box_worlds(system, 14)]
+            self.assertEqual(prices.between(system, spots, weights, first, last), ends_of(told))
+            free = any(None in gap(system, first, spot) for spot in spots)
+            seen["no ends" if free else "ends"] += 1
+        self.assertGreater(min(seen.values()), 40, seen)
 
     def test_systems_without_a_box(self):
         rolls = random.Random(7)
